@@ -1,0 +1,1 @@
+"""Words as even as can be: the calls are in evenwords.desk."""
