@@ -6,8 +6,11 @@ list of whole numbers. A refusal is a list of one number below 0.
 
 OUT_OF_RANGE = -2
 WRONG_LETTER = -3
+NONE_SUCH = -5
 
-EVEN_MOST_LETTERS = 256
+# Words of zeros and ones are the short ones, words of any letters the long ones.
+SHORT_WORD_MOST = 256
+LONG_WORD_MOST = 512
 
 LINE_MOST_Q = 1000000
 LINE_MOST_STEPS = 4096
@@ -52,8 +55,43 @@ def line_steps(p, q, r, n):
     return [((i + 1) * p + r) // q - (i * p + r) // q for i in range(n)]
 
 
+# The line p, q, r has the word's steps if at every place it has come as high as
+# the word: ahead[i] q <= i p + r < (ahead[i] + 1) q. These are the bounds of r.
+def least_r(ahead, q, p):
+    return max([ones * q - i * p for i, ones in enumerate(ahead)])
+
+
+def most_r(ahead, q, p):
+    return min([(ones + 1) * q - 1 - i * p for i, ones in enumerate(ahead)])
+
+
+# The bounds of p at the word's end, for any r from 0 to q - 1: few p are left.
+def least_p(ahead, q):
+    return max(0, (ahead[-1] - 1) * q // (len(ahead) - 1) + 1)
+
+
+def most_p(ahead, q):
+    return min(q, ((ahead[-1] + 1) * q - 1) // (len(ahead) - 1))
+
+
+# No q above the word's length needs a look: if any slope p / q fits, then one fits
+# that is 0, 1 or the ones between two places by the distance of these places.
+def first_shape(word):
+    ahead = ones_ahead_of_places(word)
+    for q in range(1, len(word) + 1):
+        for p in range(least_p(ahead, q), most_p(ahead, q) + 1):
+            r = least_r(ahead, q, p)
+            if r <= most_r(ahead, q, p):
+                return [q, p, r]
+    return []
+
+
+def pieces(word, length):
+    return [tuple(word[i:i + length]) for i in range(len(word) - length + 1)]
+
+
 def ew_even(w):
-    if outside(len(w), 1, EVEN_MOST_LETTERS):
+    if outside(len(w), 1, SHORT_WORD_MOST):
         return [OUT_OF_RANGE]
     if not only_zeros_and_ones(w):
         return [WRONG_LETTER]
@@ -68,3 +106,20 @@ def ew_line(p, q, r, n):
     if outside(p, 0, q) or outside(r, 0, q - 1):
         return [OUT_OF_RANGE]
     return [n] + line_steps(p, q, r, n)
+
+
+def ew_shape(w):
+    if outside(len(w), 1, SHORT_WORD_MOST):
+        return [OUT_OF_RANGE]
+    if not only_zeros_and_ones(w):
+        return [WRONG_LETTER]
+    shape = first_shape(w)
+    if len(shape) == 0:
+        return [NONE_SUCH]
+    return [0] + shape
+
+
+def ew_kinds(n, m, w):
+    if outside(n, 1, LONG_WORD_MOST) or outside(m, 1, n):
+        return [OUT_OF_RANGE]
+    return [len(set(pieces(w, m)))]
