@@ -15,6 +15,9 @@ LONG_WORD_MOST = 512
 LINE_MOST_Q = 1000000
 LINE_MOST_STEPS = 4096
 
+COUNT_MOST_LETTERS = 1000
+COUNT_MOST_P = 2147483647
+
 
 def outside(number, least, most):
     return number < least or number > most
@@ -90,6 +93,47 @@ def pieces(word, length):
     return [tuple(word[i:i + length]) for i in range(len(word) - length + 1)]
 
 
+# For each a, the least b: the first unlike letters from a on are left off, and
+# all behind them.
+def least_b_of_each_a(word, c):
+    least = [0]
+    for i in range(len(word) - c - 1, -1, -1):
+        if word[i] == word[i + c]:
+            least.append(least[-1])
+        else:
+            least.append(len(word) - c - i)
+    least.reverse()
+    return least
+
+
+def first_round(word, most):
+    for c in range(1, most + 1):
+        least_b = least_b_of_each_a(word, c)
+        for a in range(most - c + 1):
+            if c + a + least_b[a] <= most:
+                return [c, a, least_b[a]]
+    return []
+
+
+# Of each number up to most, how many from 1 to it have no divisor above 1 in common
+# with it: each prime takes its share away from all numbers that it divides.
+def coprime_counts(most):
+    counts = list(range(most + 1))
+    for prime in range(2, most + 1):
+        if counts[prime] == prime:
+            for number in range(prime, most + 1, prime):
+                counts[number] = counts[number] - counts[number] // prime
+    return counts
+
+
+# Every even word goes on as one, with 0 or with 1. With both go on as many of length
+# l as there are slopes p / i in lowest terms with p from 1 to i and i up to l + 1
+# (Mignosi); for each l below n these are words more, so the ones with i come n - i + 1 times.
+def how_many_even_words(n):
+    counts = coprime_counts(n)
+    return 1 + sum([(n - i + 1) * counts[i] for i in range(1, n + 1)])
+
+
 def ew_even(w):
     if outside(len(w), 1, SHORT_WORD_MOST):
         return [OUT_OF_RANGE]
@@ -123,3 +167,18 @@ def ew_kinds(n, m, w):
     if outside(n, 1, LONG_WORD_MOST) or outside(m, 1, n):
         return [OUT_OF_RANGE]
     return [len(set(pieces(w, m)))]
+
+
+def ew_round(n, m, w):
+    if outside(n, 1, LONG_WORD_MOST) or outside(m, 1, n):
+        return [OUT_OF_RANGE]
+    found = first_round(w, m)
+    if len(found) == 0:
+        return [NONE_SUCH]
+    return [0] + found
+
+
+def ew_count(n, p):
+    if outside(n, 0, COUNT_MOST_LETTERS) or outside(p, 2, COUNT_MOST_P):
+        return [OUT_OF_RANGE]
+    return [0, how_many_even_words(n) % p]
