@@ -18,6 +18,8 @@ LINE_MOST_STEPS = 4096
 COUNT_MOST_LETTERS = 1000
 COUNT_MOST_P = 2147483647
 
+KTH_MOST_LETTERS = 64
+
 
 def outside(number, least, most):
     return number < least or number > most
@@ -134,6 +136,36 @@ def how_many_even_words(n):
     return 1 + sum([(n - i + 1) * counts[i] for i in range(1, n + 1)])
 
 
+def common_divisor(one, other):
+    while other > 0:
+        rest = one % other
+        one = other
+        other = rest
+    return one
+
+
+# Begun at its several places, the line p, q, 0 is every line p, q, r: it comes
+# round after q steps. The words are texts, which are put in order far faster.
+def words_of_slope(p, q, n):
+    steps = "".join([str(step) for step in line_steps(p, q, 0, q)])
+    long_enough = steps * (n // q + 2)
+    return [long_enough[i:i + n] for i in range(q)]
+
+
+# The even words are the lines' steps, and as in first_shape q goes up to n alone.
+def even_words_in_order(n):
+    words = []
+    for q in range(1, n + 1):
+        for p in range(q + 1):
+            if common_divisor(p, q) == 1:
+                words.extend(words_of_slope(p, q, n))
+    return sorted(set(words))
+
+
+def turns(word):
+    return [word[i:] + word[:i] for i in range(len(word))]
+
+
 def ew_even(w):
     if outside(len(w), 1, SHORT_WORD_MOST):
         return [OUT_OF_RANGE]
@@ -182,3 +214,18 @@ def ew_count(n, p):
     if outside(n, 0, COUNT_MOST_LETTERS) or outside(p, 2, COUNT_MOST_P):
         return [OUT_OF_RANGE]
     return [0, how_many_even_words(n) % p]
+
+
+def ew_kth(n, k):
+    if outside(n, 1, KTH_MOST_LETTERS) or k < 0:
+        return [OUT_OF_RANGE]
+    if k >= how_many_even_words(n):
+        return [NONE_SUCH]
+    word = even_words_in_order(n)[k]
+    return [n] + [int(letter) for letter in word]
+
+
+def ew_last(w):
+    if outside(len(w), 1, LONG_WORD_MOST):
+        return [OUT_OF_RANGE]
+    return [len(w)] + [turn[-1] for turn in sorted(turns(w))]
