@@ -6,6 +6,7 @@ list of whole numbers. A refusal is a list of one number below 0.
 
 OUT_OF_RANGE = -2
 WRONG_LETTER = -3
+NOT_COPRIME = -3
 NONE_SUCH = -5
 
 # Words of zeros and ones are the short ones, words of any letters the long ones.
@@ -19,6 +20,11 @@ COUNT_MOST_LETTERS = 1000
 COUNT_MOST_P = 2147483647
 
 KTH_MOST_LETTERS = 64
+
+GAPS_MOST_PLACES = 1000000
+GAPS_MOST_POINTS = 65536
+
+CUT_MOST_Q = 1000000
 
 
 def outside(number, least, most):
@@ -166,6 +172,38 @@ def turns(word):
     return [word[i:] + word[:i] for i in range(len(word))]
 
 
+# No two points are at one place: k times the common divisor is at most n.
+def distances_around(n, s, k):
+    points = sorted([i * s % n for i in range(k)])
+    points.append(points[0] + n)
+    return [points[i + 1] - points[i] for i in range(k)]
+
+
+def how_often_each(numbers):
+    counts = {}
+    for number in numbers:
+        counts[number] = counts.get(number, 0) + 1
+    return counts
+
+
+# The i with i p = 1 above a multiple of q. The steps of Euclid's rule keep each rest
+# as so many p, less some q; p and q are coprime, so the rest 1 is met.
+def times_to_be_one_above(p, q):
+    greater = q
+    greater_times = 0
+    rest = p
+    rest_times = 1
+    while rest > 1:
+        share = greater // rest
+        lesser = greater - share * rest
+        lesser_times = greater_times - share * rest_times
+        greater = rest
+        greater_times = rest_times
+        rest = lesser
+        rest_times = lesser_times
+    return rest_times % q
+
+
 def ew_even(w):
     if outside(len(w), 1, SHORT_WORD_MOST):
         return [OUT_OF_RANGE]
@@ -229,3 +267,24 @@ def ew_last(w):
     if outside(len(w), 1, LONG_WORD_MOST):
         return [OUT_OF_RANGE]
     return [len(w)] + [turn[-1] for turn in sorted(turns(w))]
+
+
+def ew_gaps(n, s, k):
+    if outside(n, 1, GAPS_MOST_PLACES) or outside(s, 0, n - 1) or outside(k, 1, GAPS_MOST_POINTS):
+        return [OUT_OF_RANGE]
+    if k * common_divisor(n, s) > n:
+        return [OUT_OF_RANGE]
+    counts = how_often_each(distances_around(n, s, k))
+    answer = [len(counts)]
+    for distance in sorted(counts):
+        answer.extend([distance, counts[distance]])
+    return answer
+
+
+# The line is cut where it is closest above a whole height without being on it.
+def ew_cut(p, q):
+    if outside(q, 2, CUT_MOST_Q) or outside(p, 1, q - 1):
+        return [OUT_OF_RANGE]
+    if common_divisor(p, q) > 1:
+        return [NOT_COPRIME]
+    return [times_to_be_one_above(p, q)]
