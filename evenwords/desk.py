@@ -134,9 +134,9 @@ def coprime_counts(most):
     return counts
 
 
-# Every even word goes on as one, with 0 or with 1. With both go on as many of length
-# l as there are slopes p / i in lowest terms with p from 1 to i and i up to l + 1
-# (Mignosi); for each l below n these are words more, so the ones with i come n - i + 1 times.
+# Each even word can be made one letter longer and stay even. As many of length l can
+# take either letter as there are slopes p / i in lowest terms, p from 1 to i, i up to
+# l + 1 (Mignosi). Summed over each l below n, the slopes with i count n - i + 1 times.
 def how_many_even_words(n):
     counts = coprime_counts(n)
     return 1 + sum([(n - i + 1) * counts[i] for i in range(1, n + 1)])
